@@ -1,0 +1,1 @@
+"""Spinboard: boards of cells, kept by all amounts and by rows of signs."""
