@@ -1,6 +1,10 @@
-"""What several tests need: things that are no whole numbers, and numbers to try."""
+"""What several tests need: things of every kind, numbers to try, and boards told by sets of cells and fractions."""
 
+import itertools
 import random
+from fractions import Fraction
+
+from spinboard.amounts import amount
 
 
 class Odd:
@@ -19,12 +23,23 @@ class Odd:
         return 1
 
 
-NOT_WHOLE = [
-    True, False, None, "", "1", "12345", b"1", 1.0, 0.5, float("nan"), 1j, [], [1], (), (1,), (0, 0, 1),
+OTHER_KINDS = [
+    True, False, None, "", "1", "12345", b"1", 1.0, 0.5, float("nan"), 1j, [], [1], (), (1,),
     {}, {1: 1}, set(), frozenset([1]), range(3), int, Odd(), Odd, len,
 ]
 
+NOT_WHOLE = OTHER_KINDS + [(0, 0, 1)]
+
+RING = []
+RING.append(RING)
+
 GREAT = 10 ** 999 + 7
+
+# None of these is a mark, a mark's text, a list of amounts that make a board, or a move.
+ANYTHING = OTHER_KINDS + [
+    0, 1, -1, 2, 64, GREAT, -GREAT, RING, (RING, RING, RING), [None] * 4, [Odd(), Odd()], (Odd(), Odd(), Odd()),
+    (None, None), ("flip",), ([], []), ({}, 0), bytearray(2), iter([]), object(), ValueError("flip"), "flip", Ellipsis,
+]
 
 
 def numbers(seed, most=40):
@@ -33,3 +48,69 @@ def numbers(seed, most=40):
     while True:
         bits = source.choice([0, 1, 2, 3, 8, most])
         yield source.randint(-(2 ** bits), 2 ** bits)
+
+
+def worth(one):
+    """The four parts as fractions: of each number there is one such list."""
+    return [Fraction(part, 2 ** one[4]) for part in one[:4]]
+
+
+def worth_times(one, other):
+    full = [Fraction(0)] * 7
+    for i, j in itertools.product(range(4), repeat=2):
+        full[i + j] += one[i] * other[j]
+    return [full[i] - (full[i + 4] if i < 3 else 0) for i in range(4)]
+
+
+def worth_spun(one, k):
+    for _ in range(k):
+        one = worth_times(one, [0, 1, 0, 0])
+    return one
+
+
+def cells_in(word, cells):
+    """The cells that a word has, by its figures in base two, the last one cell 0."""
+    figures = format(word, f"0{cells}b")[::-1]
+    return frozenset(cell for cell, figure in enumerate(figures) if figure == "1")
+
+
+def told_by_cells(board):
+    """The board as a dict from the set of cells that a word has to the worth of its amount."""
+    cells = len(format(len(board) - 1, "b"))
+    return {cells_in(word, cells): worth(one) for word, one in enumerate(board)}
+
+
+def some_board(cells, seed=1):
+    """A board of sundry amounts, some with halvings; on odd seeds every third one, from the word 1 on, is nought."""
+    walk = numbers(f"{cells} {seed}", 12)
+    board = []
+    for word in range(2 ** cells):
+        parts = [next(walk) for _ in range(4)]
+        lean = seed % 2 == 1 and word % 3 == 1
+        board.append(amount(*([0] * 4 if lean else parts[:3] + [4 * parts[3] + 1]), abs(next(walk)) % 5))
+    return board
+
+
+def great_board(cells):
+    """A board with parts of a thousand figures and a thousand halvings."""
+    walk = numbers(cells, 3300)
+    return [amount(GREAT + word, next(walk), next(walk), 2 * word, 1000 - word) for word in range(2 ** cells)]
+
+
+def all_moves(cells):
+    """Every move of a board with so many cells."""
+    for a in range(cells):
+        yield from [("flip", a), ("mix", a)]
+        yield from [("turn", a, k) for k in range(1, 8)]
+    for pair in itertools.permutations(range(cells), 2):
+        yield from [(word, *pair) for word in ["if", "pair", "swap"]]
+    yield from [("cross", *cells_named) for cells_named in itertools.permutations(range(cells), 3)]
+
+
+def some_row(cells, many, seed):
+    """So many moves, of every kind that the cells allow, in no order; the same ones for the same seed."""
+    source = random.Random(f"{cells} {many} {seed}")
+    kinds = {}
+    for move in all_moves(cells):
+        kinds.setdefault(move[0], []).append(move)
+    return [source.choice(kinds[source.choice(sorted(kinds))]) for _ in range(many)]

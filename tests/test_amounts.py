@@ -9,24 +9,12 @@ from spinboard.amounts import (
 )
 from spinboard.errors import NoAmount, NoShare
 from spinboard.shares import share, share_plus, share_times
-from tests.helper import GREAT, NOT_WHOLE, numbers
+from tests.helper import GREAT, NOT_WHOLE, numbers, worth, worth_times
 
 NOUGHT = (0, 0, 0, 0, 0)
 ONE = (1, 0, 0, 0, 0)
 EIGHTH = (0, 1, 0, 0, 0)
 ROOT = (0, 1, 0, -1, 0)
-
-
-def worth(one):
-    """The four parts as fractions: of each number there is one such list."""
-    return [Fraction(part, 2 ** one[4]) for part in one[:4]]
-
-
-def worth_times(one, other):
-    full = [Fraction(0)] * 7
-    for i, j in itertools.product(range(4), repeat=2):
-        full[i + j] += one[i] * other[j]
-    return [full[i] - (full[i + 4] if i < 3 else 0) for i in range(4)]
 
 
 def some_amounts(seed, many, most=40):
