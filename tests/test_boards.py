@@ -96,7 +96,8 @@ class Start(BoardCase):
 class BoardOf(BoardCase):
     def test_an_equal_list_that_is_not_the_same(self):
         for cells in range(1, 7):
-            for handed in [some_board(cells, 1), some_board(cells, 2), great_board(cells), start(cells, 2 ** cells - 1)]:
+            last = start(cells, 2 ** cells - 1)
+            for handed in [some_board(cells, 1), some_board(cells, 2), great_board(cells), last]:
                 told = board_of(handed)
                 self.assertIs(type(told), list)
                 self.assertEqual(told, handed)

@@ -8,7 +8,7 @@ from spinboard.amounts import spun
 from spinboard.boards import laid_on
 from spinboard.errors import NoMark
 from spinboard.marks import commute, is_even, is_mark, ones, product, read_mark, show_mark, turned_about
-from tests.helper import ANYTHING, GREAT, NOT_WHOLE, Odd, some_board
+from tests.helper import ANYTHING, GREAT, NOT_WHOLE, some_board
 
 # On these boards no two marks do the same: their amounts are unlike ones, none of which is another one spun.
 PLAIN_BOARDS = {cells: [(3 * word + 7, 1, 0, 0, 0) for word in range(2 ** cells)] for cells in range(1, 7)}
@@ -115,9 +115,9 @@ class IsMark(unittest.TestCase):
 
 class IsEven(unittest.TestCase):
     def test_told_ones(self):
-        for mark in [(0, 0, 0), (2, 0, 0), (0, 1, 0), (0, 0, 1), (1, 1, 1), (3, 1, 1), (0, 3, 3), (2, 5, 2), (1, 6, 12)]:
+        for mark in [(0, 0, 0), (2, 0, 0), (0, 1, 0), (0, 0, 1), (1, 1, 1), (3, 1, 1), (0, 3, 3), (2, 5, 2), (1, 6, 4)]:
             self.assertIs(is_even(mark), True, mark)
-        for mark in [(1, 0, 0), (3, 0, 0), (1, 1, 0), (3, 0, 1), (0, 1, 1), (2, 1, 1), (1, 3, 3), (3, 5, 2), (2, 6, 12)]:
+        for mark in [(1, 0, 0), (3, 0, 0), (1, 1, 0), (3, 0, 1), (0, 1, 1), (2, 1, 1), (1, 3, 3), (3, 5, 2), (2, 6, 4)]:
             self.assertIs(is_even(mark), False, mark)
 
     def test_even_ones_laid_on_twice_do_nothing_and_others_turn_about(self):
@@ -276,7 +276,7 @@ class ReadRefuses(unittest.TestCase):
             self.assert_refused(text)
 
     def test_what_is_no_text(self):
-        things = [b"+f", bytearray(b"+f"), ["+", "f"], ("+", "f"), ["+f"], (0, 1, 0), ((0, 1, 0), 1), {"+": "f"}, 7, Odd()]
+        things = [b"+f", bytearray(b"+f"), ["+", "f"], ("+", "f"), ["+f"], (0, 1, 0), ((0, 1, 0), 1), {"+": "f"}, 7]
         for thing in things + ANYTHING:
             self.assert_refused(thing)
 

@@ -101,7 +101,9 @@ class RunRefuses(unittest.TestCase):
 class Backward(unittest.TestCase):
     def test_told_ones(self):
         self.assertEqual(backward([]), [])
-        row = [("flip", 0), ("mix", 1), ("turn", 2, 3), ("if", 0, 1), ("pair", 1, 2), ("swap", 2, 0), ("cross", 0, 1, 2)]
+        row = [
+            ("flip", 0), ("mix", 1), ("turn", 2, 3), ("if", 0, 1), ("pair", 1, 2), ("swap", 2, 0), ("cross", 0, 1, 2),
+        ]
         asked = [
             ("cross", 0, 1, 2), ("swap", 2, 0), ("pair", 1, 2), ("if", 0, 1), ("turn", 2, 5), ("mix", 1), ("flip", 0),
         ]
