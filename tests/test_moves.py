@@ -243,8 +243,8 @@ class CheckMove(unittest.TestCase):
     def test_no_move_goes_ahead_of_no_cell(self):
         both = [
             ("turn", 9, 0), ("turn", -1, 8), ("turn", -1, True), ("if", 7, None), ("if", -1, True),
-            ("cross", 0, 0, "1"), ("cross", 9, 9, 9.0), ("flip", -1, 0), ("if", 9), ("swap", 0, 0, 0), ("cross", 0, 0), ("spin", -1),
-            ("turn", 9), ("pair", False, -1), ("mix", 9, 9),
+            ("cross", 0, 0, "1"), ("cross", 9, 9, 9.0), ("flip", -1, 0), ("if", 9), ("swap", 0, 0, 0),
+            ("cross", 0, 0), ("spin", -1), ("turn", 9), ("pair", False, -1), ("mix", 9, 9),
         ]
         for move in both:
             for cells in range(1, 7):
