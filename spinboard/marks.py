@@ -35,6 +35,10 @@ def is_even(mark):
     return (mark[0] + ones(mark[1] & mark[2])) % 2 == 0
 
 
+def is_even_mark(thing, cells):
+    return is_mark(thing, cells) and is_even(thing)
+
+
 def commute(one, other):
     return (ones(one[1] & other[2]) + ones(one[2] & other[1])) % 2 == 0
 

@@ -1,10 +1,13 @@
 """What several tests need: things of every kind, numbers to try, and boards told by sets of cells and fractions."""
 
+import copy
 import itertools
 import random
+import unittest
 from fractions import Fraction
 
 from spinboard.amounts import amount
+from spinboard.marks import commute, is_even, product
 
 
 class Odd:
@@ -80,6 +83,15 @@ def told_by_cells(board):
     return {cells_in(word, cells): worth(one) for word, one in enumerate(board)}
 
 
+def laid_by_words(told, flips, signs, q):
+    """The document's words for a mark that is laid on, over sets of cells."""
+    behind = {}
+    for cells, one in told.items():
+        goes_to = frozenset(cell for cell in cells | flips if (cell in cells) != (cell in flips))
+        behind[goes_to] = worth_spun(one, (2 * q + 4 * len(cells & signs)) % 8)
+    return behind
+
+
 def some_board(cells, seed=1):
     """A board of sundry amounts, some with halvings; on odd seeds every third one, from the word 1 on, is nought."""
     walk = numbers(f"{cells} {seed}", 12)
@@ -114,3 +126,66 @@ def some_row(cells, many, seed):
     for move in all_moves(cells):
         kinds.setdefault(move[0], []).append(move)
     return [source.choice(kinds[source.choice(sorted(kinds))]) for _ in range(many)]
+
+
+def all_marks(cells):
+    return list(itertools.product(range(4), range(2 ** cells), range(2 ** cells)))
+
+
+def some_marks(cells, many, seed):
+    source = random.Random(f"{cells} {seed}")
+    return [(source.randrange(4), source.randrange(2 ** cells), source.randrange(2 ** cells)) for _ in range(many)]
+
+
+def even_marks(cells):
+    return [mark for mark in all_marks(cells) if is_even(mark)]
+
+
+def some_even_marks(cells, many, seed):
+    return [mark for mark in some_marks(cells, 8 * many, seed) if is_even(mark)][:many]
+
+
+def products_of(rows):
+    """All products of none or more of the rows, each once: 2 to the number of rows, the first one of none."""
+    told = [(0, 0, 0)]
+    for row in rows:
+        told = told + [product(mark, row) for mark in told]
+    return told
+
+
+def some_table(cells, many, seed):
+    """A table of so many rows, in no order; the same one for the same seed."""
+    source = random.Random(f"{cells} {many} {seed}")
+    rows = []
+    while len(rows) < many:
+        mark = (source.randrange(4), source.randrange(2 ** cells), source.randrange(2 ** cells))
+        made = [mark[1:] == other[1:] for other in products_of(rows)]
+        if is_even(mark) and all(commute(mark, row) for row in rows) and not any(made):
+            rows.append(mark)
+    return rows
+
+
+def made_otherwise(rows, seed):
+    """Another table with the same marks: rows multiplied by others, and put in another order."""
+    source = random.Random(f"{rows} {seed}")
+    told = list(rows)
+    for _ in range(12 if len(rows) > 1 else 0):
+        i, j = source.sample(range(len(rows)), 2)
+        told[i] = product(told[i], told[j])
+    source.shuffle(told)
+    return told
+
+
+class OwnCase(unittest.TestCase):
+    def assert_own(self, ask, *handed):
+        """What is told is a new list: changed, it shows neither in what was handed in nor in what is told later."""
+        before = copy.deepcopy(handed)
+        first = ask(*handed)
+        kept = list(first)
+        for thing in handed:
+            self.assertIsNot(first, thing)
+        first[:1] = ["changed"]
+        first.append("more")
+        self.assertEqual(handed, before)
+        self.assertEqual(ask(*handed), kept)
+        self.assertEqual(handed, before)

@@ -9,7 +9,7 @@ from spinboard.boards import board_of, cells_of, heft, laid_on, parted, scaled, 
 from spinboard.errors import NoBoard
 from spinboard.shares import share, share_plus, share_times
 from tests.helper import (
-    ANYTHING, GREAT, NOT_WHOLE, Odd, cells_in, great_board, some_board, told_by_cells, worth_spun,
+    ANYTHING, GREAT, NOT_WHOLE, Odd, OwnCase, cells_in, great_board, laid_by_words, some_board, told_by_cells,
 )
 
 NOUGHT = (0, 0, 0, 0, 0)
@@ -18,24 +18,11 @@ ROOT = (0, 1, 0, -1, 0)
 FACTORS = [ONE, (-1, 0, 0, 0, 0), ROOT, (0, 0, 1, 0, 0), (3, -1, 2, 5, 4), (GREAT, 1, 0, -GREAT, 1000)]
 
 
-class BoardCase(unittest.TestCase):
+class BoardCase(OwnCase):
     def assert_board(self, thing, cells):
         self.assertIs(type(thing), list)
         self.assertEqual(len(thing), 2 ** cells)
         self.assertEqual(board_of(thing), thing)
-
-    def assert_own(self, ask, *handed):
-        """What is told is a new list: changed, it shows neither in what was handed in nor in what is told later."""
-        before = copy.deepcopy(handed)
-        first = ask(*handed)
-        kept = list(first)
-        for thing in handed:
-            self.assertIsNot(first, thing)
-        first[0] = "changed"
-        first.append("more")
-        self.assertEqual(handed, before)
-        self.assertEqual(ask(*handed), kept)
-        self.assertEqual(handed, before)
 
 
 class Interface(unittest.TestCase):
@@ -227,15 +214,6 @@ class Scaled(BoardCase):
         for cells in range(1, 7):
             for one in FACTORS:
                 self.assert_own(scaled, some_board(cells), one)
-
-
-def laid_by_words(told, flips, signs, q):
-    """The document's words for a mark that is laid on, over sets of cells."""
-    behind = {}
-    for cells, one in told.items():
-        goes_to = frozenset(cell for cell in cells | flips if (cell in cells) != (cell in flips))
-        behind[goes_to] = worth_spun(one, (2 * q + 4 * len(cells & signs)) % 8)
-    return behind
 
 
 class LaidOn(BoardCase):

@@ -42,6 +42,28 @@ def bound_names(tree):
             yield node.arg
 
 
+def is_walk(node):
+    if not isinstance(node, ast.Call):
+        return False
+    if isinstance(node.func, ast.Attribute):
+        return node.func.attr in ("items", "keys", "values")
+    return isinstance(node.func, ast.Name) and node.func.id in ("zip", "enumerate", "reversed", "range")
+
+
+def walked_at(node):
+    """What a node walks on the spot."""
+    if isinstance(node, (ast.For, ast.comprehension)):
+        return [node.iter]
+    if isinstance(node, ast.Call) and isinstance(node.func, ast.Name):
+        if node.func.id in ("list", "tuple", "dict", "sorted", "sum", "any", "all", "enumerate", "zip"):
+            return node.args[:1]
+        if node.func.id in ("min", "max") and len(node.args) == 1:
+            return node.args
+    if isinstance(node, ast.Call) and isinstance(node.func, ast.Attribute) and node.func.attr == "join":
+        return node.args if isinstance(node.func.value, ast.Constant) else []
+    return []
+
+
 class Form(unittest.TestCase):
     def trees(self):
         for path in sorted(PACKAGE.glob("*.py")):
@@ -141,6 +163,13 @@ class Form(unittest.TestCase):
         for where, node in self.nodes(ast.Call):
             if isinstance(node.func, ast.Attribute):
                 self.assertIn(node.func.attr, METHODS | own, where)
+
+    def test_walks_are_not_kept(self):
+        for path, tree in self.trees():
+            walked = {id(part) for node in ast.walk(tree) for part in walked_at(node)}
+            for node in ast.walk(tree):
+                if is_walk(node):
+                    self.assertIn(id(node), walked, f"{path.name}:{node.lineno}")
 
     def test_is_stands_beside_none_true_false(self):
         for where, node in self.nodes(ast.Compare):

@@ -1,6 +1,5 @@
 import inspect
 import itertools
-import random
 import unittest
 
 from spinboard import marks
@@ -8,19 +7,10 @@ from spinboard.amounts import spun
 from spinboard.boards import laid_on
 from spinboard.errors import NoMark
 from spinboard.marks import commute, is_even, is_mark, ones, product, read_mark, show_mark, turned_about
-from tests.helper import ANYTHING, GREAT, NOT_WHOLE, some_board
+from tests.helper import ANYTHING, GREAT, NOT_WHOLE, all_marks, some_board, some_marks
 
 # On these boards no two marks do the same: their amounts are unlike ones, none of which is another one spun.
 PLAIN_BOARDS = {cells: [(3 * word + 7, 1, 0, 0, 0) for word in range(2 ** cells)] for cells in range(1, 7)}
-
-
-def all_marks(cells):
-    return list(itertools.product(range(4), range(2 ** cells), range(2 ** cells)))
-
-
-def some_marks(cells, many, seed):
-    source = random.Random(f"{cells} {seed}")
-    return [(source.randrange(4), source.randrange(2 ** cells), source.randrange(2 ** cells)) for _ in range(many)]
 
 
 def mark_pairs():
