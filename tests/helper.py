@@ -7,7 +7,7 @@ import unittest
 from fractions import Fraction
 
 from spinboard.amounts import amount
-from spinboard.marks import commute, is_even, product
+from spinboard.marks import commute, is_even, is_mark, product
 
 
 class Odd:
@@ -42,6 +42,31 @@ GREAT = 10 ** 999 + 7
 ANYTHING = OTHER_KINDS + [
     0, 1, -1, 2, 64, GREAT, -GREAT, RING, (RING, RING, RING), [None] * 4, [Odd(), Odd()], (Odd(), Odd(), Odd()),
     (None, None), ("flip",), ([], []), ({}, 0), bytearray(2), iter([]), object(), ValueError("flip"), "flip", Ellipsis,
+]
+
+
+# Each of these would be a table of three cells, were it not for one thing.
+NO_TABLES = [
+    # An odd mark.
+    [(1, 0, 1)], [(0, 1, 1)], [(3, 1, 0)], [(0, 0, 2), (0, 1, 1)], [(1, 0, 1), (0, 0, 2)], [(0, 0, 1), (3, 0, 2)],
+    # Two that don't commute.
+    [(0, 1, 0), (0, 0, 1)], [(0, 0, 1), (0, 0, 2), (0, 1, 0)], [(1, 1, 1), (0, 1, 0)], [(0, 3, 0), (0, 0, 1)],
+    [(0, 1, 2), (0, 0, 4), (0, 2, 0)],
+    # A product with f and s both 0.
+    [(0, 0, 0)], [(2, 0, 0)], [(0, 0, 1), (0, 0, 1)], [(0, 0, 1), (2, 0, 1)], [(0, 0, 1), (0, 0, 0)],
+    [(0, 0, 1), (0, 0, 2), (0, 0, 3)], [(0, 0, 1), (0, 0, 2), (2, 0, 3)], [(0, 3, 0), (0, 0, 3), (2, 3, 3)],
+    [(0, 3, 0), (0, 0, 3), (0, 3, 3)], [(2, 0, 0), (0, 0, 1), (0, 0, 2)], [(0, 0, 3), (0, 0, 6), (0, 0, 5)],
+    # More than n marks.
+    [(0, 0, 1), (0, 0, 2), (0, 0, 4), (0, 0, 7)], [(0, 0, 1), (0, 0, 2), (0, 0, 4), (0, 0, 0)],
+    [(0, 0, 1), (0, 0, 2), (0, 0, 4), (0, 1, 0)], [(0, 0, word) for word in range(1, 8)] + [(2, 0, 1)] * 5,
+    # Marks of more cells.
+    [(0, 0, 8)], [(0, 8, 0)], [(0, 0, 1), (0, 0, 8)], [(1, 8, 8)], [(0, 0, GREAT)],
+    # What is no mark.
+    [(4, 0, 1)], [(-2, 0, 1)], [(0, -1, 0)], [(0, 0, -1)], [[0, 0, 1]], [(0, 0)], [(0, 0, 1, 0)], [(0, 0, True)],
+    [(False, 0, 1)], [(0, False, 1)], [(0, 0, 1.0)], ["+s.."], [None], [()], [[]], [(0, 0, 1), None], [None, (0, 0, 1)],
+    # What is no list.
+    ((0, 0, 1), (0, 0, 2)), ((0, 0, 1),), (0, 0, 1), {(0, 0, 1): True}, {(0, 0, 1)}, frozenset([(0, 0, 1)]),
+    iter([(0, 0, 1)]), "+s..", range(0),
 ]
 
 
@@ -119,13 +144,40 @@ def all_moves(cells):
     yield from [("cross", *cells_named) for cells_named in itertools.permutations(range(cells), 3)]
 
 
-def some_row(cells, many, seed):
-    """So many moves, of every kind that the cells allow, in no order; the same ones for the same seed."""
-    source = random.Random(f"{cells} {many} {seed}")
+def row_out_of(moves, many, source):
+    """So many of the moves, in no order, those of each kind as often as those of another one."""
     kinds = {}
-    for move in all_moves(cells):
+    for move in moves:
         kinds.setdefault(move[0], []).append(move)
     return [source.choice(kinds[source.choice(sorted(kinds))]) for _ in range(many)]
+
+
+def some_row(cells, many, seed):
+    """So many moves, of every kind that the cells allow, in no order; the same ones for the same seed."""
+    return row_out_of(all_moves(cells), many, random.Random(f"{cells} {many} {seed}"))
+
+
+def is_odd_turn_by_words(move):
+    return move[0] == "turn" and move[2] in (1, 3, 5, 7)
+
+
+def borne_moves(cells):
+    """Every move of so many cells but the crosses and the odd turns."""
+    return [move for move in all_moves(cells) if move[0] != "cross" and not is_odd_turn_by_words(move)]
+
+
+def borne_row(cells, many, seed):
+    return row_out_of(borne_moves(cells), many, random.Random(f"borne {cells} {many} {seed}"))
+
+
+def row_with_odd_turns(cells, many, odd, seed):
+    """So many moves that tables bear, and so many odd turns at any places among them."""
+    source = random.Random(f"odd {cells} {many} {odd} {seed}")
+    row = row_out_of(borne_moves(cells), many, source)
+    for _ in range(odd):
+        turn = ("turn", source.randrange(cells), source.choice([1, 3, 5, 7]))
+        row.insert(source.randrange(len(row) + 1), turn)
+    return row
 
 
 def all_marks(cells):
@@ -174,6 +226,51 @@ def made_otherwise(rows, seed):
         told[i] = product(told[i], told[j])
     source.shuffle(told)
     return told
+
+
+def is_empty_list(thing):
+    return isinstance(thing, list) and len(thing) == 0
+
+
+def is_table_by_words(rows, cells):
+    """The document's words, with every product of one or more rows, each once, made by itself."""
+    if not all(is_mark(row, cells) and is_even(row) for row in rows):
+        return False
+    if not all(commute(one, other) for one, other in itertools.combinations(rows, 2)):
+        return False
+    for many in range(1, len(rows) + 1):
+        for some in itertools.combinations(rows, many):
+            flips = signs = 0
+            for q, f, s in some:
+                flips, signs = flips ^ f, signs ^ s
+            if flips == signs == 0:
+                return False
+    return True
+
+
+def lead_by_words(mark):
+    flips, signs = cells_in(mark[1], 6), cells_in(mark[2], 6)
+    return min(flips) if flips else 6 + min(signs)
+
+
+def what_it_has(mark):
+    """The flips as their cells, the signs as their cells and 6 more."""
+    return cells_in(mark[1], 6) | {6 + cell for cell in cells_in(mark[2], 6)}
+
+
+def is_reduced_by_words(rows):
+    leads = [lead_by_words(row) for row in rows]
+    if leads != sorted(set(leads)):
+        return False
+    return not any(leads[i] in what_it_has(rows[j]) for i, j in itertools.permutations(range(len(rows)), 2))
+
+
+def all_tables(cells):
+    """Every table of so many cells, in every order of its rows."""
+    for many in range(cells + 1):
+        for rows in itertools.product(even_marks(cells), repeat=many):
+            if is_table_by_words(list(rows), cells):
+                yield list(rows)
 
 
 class OwnCase(unittest.TestCase):

@@ -9,59 +9,14 @@ from spinboard.errors import NoTable
 from spinboard.marks import commute, is_even, is_mark, product, turned_about
 from spinboard.tables import is_table, made_of, parting, reduced
 from tests.helper import (
-    ANYTHING, GREAT, NOT_WHOLE, RING, Odd, OwnCase, all_marks, cells_in, even_marks, made_otherwise, products_of,
-    some_even_marks, some_marks, some_table,
+    ANYTHING, NO_TABLES, NOT_WHOLE, RING, Odd, OwnCase, all_marks, all_tables, even_marks, is_empty_list,
+    is_reduced_by_words, is_table_by_words, made_otherwise, products_of, some_even_marks, some_marks, some_table,
 )
-
-
-def is_table_by_words(rows, cells):
-    """The document's words, with every product of one or more rows, each once, made by itself."""
-    if not all(is_mark(row, cells) and is_even(row) for row in rows):
-        return False
-    if not all(commute(one, other) for one, other in itertools.combinations(rows, 2)):
-        return False
-    for many in range(1, len(rows) + 1):
-        for some in itertools.combinations(rows, many):
-            flips = signs = 0
-            for q, f, s in some:
-                flips, signs = flips ^ f, signs ^ s
-            if flips == signs == 0:
-                return False
-    return True
-
-
-def lead_by_words(mark):
-    flips, signs = cells_in(mark[1], 6), cells_in(mark[2], 6)
-    return min(flips) if flips else 6 + min(signs)
-
-
-def what_it_has(mark):
-    """The flips as their cells, the signs as their cells and 6 more."""
-    return cells_in(mark[1], 6) | {6 + cell for cell in cells_in(mark[2], 6)}
-
-
-def is_reduced_by_words(rows):
-    leads = [lead_by_words(row) for row in rows]
-    if leads != sorted(set(leads)):
-        return False
-    return not any(leads[i] in what_it_has(rows[j]) for i, j in itertools.permutations(range(len(rows)), 2))
 
 
 def tables_of(cells, seeds=3):
     for many, seed in itertools.product(range(cells + 1), range(seeds)):
         yield some_table(cells, many, seed)
-
-
-def all_tables(cells):
-    """Every table of so many cells, in every order of its rows."""
-    for many in range(cells + 1):
-        for rows in itertools.product(even_marks(cells), repeat=many):
-            if is_table_by_words(list(rows), cells):
-                yield list(rows)
-
-
-def is_empty_list(thing):
-    return isinstance(thing, list) and len(thing) == 0
 
 
 class Interface(unittest.TestCase):
@@ -72,31 +27,6 @@ class Interface(unittest.TestCase):
         }
         for name, arguments in asked.items():
             self.assertEqual(str(inspect.signature(getattr(tables, name))), arguments, name)
-
-
-# Each of these would be a table of three cells, were it not for one thing.
-NO_TABLES = [
-    # An odd mark.
-    [(1, 0, 1)], [(0, 1, 1)], [(3, 1, 0)], [(0, 0, 2), (0, 1, 1)], [(1, 0, 1), (0, 0, 2)], [(0, 0, 1), (3, 0, 2)],
-    # Two that don't commute.
-    [(0, 1, 0), (0, 0, 1)], [(0, 0, 1), (0, 0, 2), (0, 1, 0)], [(1, 1, 1), (0, 1, 0)], [(0, 3, 0), (0, 0, 1)],
-    [(0, 1, 2), (0, 0, 4), (0, 2, 0)],
-    # A product with f and s both 0.
-    [(0, 0, 0)], [(2, 0, 0)], [(0, 0, 1), (0, 0, 1)], [(0, 0, 1), (2, 0, 1)], [(0, 0, 1), (0, 0, 0)],
-    [(0, 0, 1), (0, 0, 2), (0, 0, 3)], [(0, 0, 1), (0, 0, 2), (2, 0, 3)], [(0, 3, 0), (0, 0, 3), (2, 3, 3)],
-    [(0, 3, 0), (0, 0, 3), (0, 3, 3)], [(2, 0, 0), (0, 0, 1), (0, 0, 2)], [(0, 0, 3), (0, 0, 6), (0, 0, 5)],
-    # More than n marks.
-    [(0, 0, 1), (0, 0, 2), (0, 0, 4), (0, 0, 7)], [(0, 0, 1), (0, 0, 2), (0, 0, 4), (0, 0, 0)],
-    [(0, 0, 1), (0, 0, 2), (0, 0, 4), (0, 1, 0)], [(0, 0, word) for word in range(1, 8)] + [(2, 0, 1)] * 5,
-    # Marks of more cells.
-    [(0, 0, 8)], [(0, 8, 0)], [(0, 0, 1), (0, 0, 8)], [(1, 8, 8)], [(0, 0, GREAT)],
-    # What is no mark.
-    [(4, 0, 1)], [(-2, 0, 1)], [(0, -1, 0)], [(0, 0, -1)], [[0, 0, 1]], [(0, 0)], [(0, 0, 1, 0)], [(0, 0, True)],
-    [(False, 0, 1)], [(0, False, 1)], [(0, 0, 1.0)], ["+s.."], [None], [()], [[]], [(0, 0, 1), None], [None, (0, 0, 1)],
-    # What is no list.
-    ((0, 0, 1), (0, 0, 2)), ((0, 0, 1),), (0, 0, 1), {(0, 0, 1): True}, {(0, 0, 1)}, frozenset([(0, 0, 1)]),
-    iter([(0, 0, 1)]), "+s..", range(0),
-]
 
 
 class IsTable(unittest.TestCase):
