@@ -8,14 +8,19 @@ from spinboard.shares import is_whole
 NOUGHT = (0, 0, 0, 0, 0)
 ONE = (1, 0, 0, 0, 0)
 LENGTHS = (2, 4, 8, 16, 32, 64)
+MOST_CELLS = 6
 
 
 def start(cells, word=0):
-    if not is_whole(cells) or cells < 1 or cells > 6:
+    check_beginning(cells, word)
+    return [ONE if place == word else NOUGHT for place in range(1 << cells)]
+
+
+def check_beginning(cells, word):
+    if not is_whole(cells) or cells < 1 or cells > MOST_CELLS:
         raise NoBoard("a board has one to six cells")
     if not is_word(word, cells):
         raise NoBoard("a board begins at a word of its cells")
-    return [ONE if place == word else NOUGHT for place in range(1 << cells)]
 
 
 def board_of(amounts):

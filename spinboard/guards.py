@@ -1,8 +1,8 @@
 """Guards: tables that tell a wrong turn at one cell, and the marks that mend it."""
 
-from spinboard.errors import NoTable, Unguarded
+from spinboard.errors import Unguarded
 from spinboard.marks import commute, product
-from spinboard.tables import PRODUCT_OF_NONE, is_table, made_of
+from spinboard.tables import PRODUCT_OF_NONE, check_table, made_of
 
 
 def wrongs(cells, where=None):
@@ -18,8 +18,7 @@ def answers(rows, mark):
 
 
 def mends(rows, cells, where=None):
-    if not is_table(rows, cells):
-        raise NoTable("this is no table of so many cells")
+    check_table(rows, cells)
     firsts = {}
     for wrong in wrongs(cells, where):
         first = firsts.setdefault(answers(rows, wrong), wrong)

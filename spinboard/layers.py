@@ -4,7 +4,7 @@ from spinboard.errors import NoTable
 from spinboard.images import plain_marks
 from spinboard.marks import cell_sign, commute, is_even_mark
 from spinboard.rows import backward
-from spinboard.tables import is_table, least_cell
+from spinboard.tables import check_table, least_cell
 from spinboard.tableturns import moved_through
 
 
@@ -33,8 +33,7 @@ def commute_alike(marks, plain, place):
 
 
 def laid(rows, cells):
-    if not is_table(rows, cells):
-        raise NoTable("this is no table of so many cells")
+    check_table(rows, cells)
     row = []
     for cell, mark in enumerate(rows):
         row = row + layer_to_sign(moved_through(mark, row), cell, cells)

@@ -8,15 +8,15 @@ from spinboard.shares import share_over, share_under
 
 
 def settled(board, mark, outcome):
-    check_look(board, mark)
+    check_look(mark, cells_of(board))
     behind = half_left(board, mark, outcome)
     if is_nothing(behind):
         raise NeverSo("this outcome leaves nothing of the board")
     return behind
 
 
-def check_look(board, mark):
-    if not is_even_mark(mark, cells_of(board)):
+def check_look(mark, cells):
+    if not is_even_mark(mark, cells):
         raise NoMark("a look is at an even mark of the board's cells")
 
 
@@ -36,7 +36,7 @@ def is_nothing(amounts):
 
 
 def looked(board, mark):
-    check_look(board, mark)
+    check_look(mark, cells_of(board))
     ahead = heft(board)
     return (left_share(board, mark, 0, ahead), left_share(board, mark, 1, ahead))
 
@@ -47,7 +47,7 @@ def left_share(board, mark, outcome, ahead):
 
 def outcomes(board, marks):
     for mark in marks:
-        check_look(board, mark)
+        check_look(mark, cells_of(board))
     # A copy, so that the board told of no marks is the asker's own, too.
     ways = [((), list(board))]
     for mark in marks:

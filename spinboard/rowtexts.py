@@ -1,10 +1,10 @@
 """Rows written as texts, and read of them."""
 
+from spinboard.boards import MOST_CELLS
 from spinboard.errors import NoCell, NoMove, NoText
 from spinboard.moves import check_move
 
 FIGURES = "0123456789"
-CELLS_READ = 6
 
 
 def show_row(row):
@@ -18,15 +18,18 @@ def show_move(move):
 def read_row(text):
     if not isinstance(text, str):
         raise NoText(0)
-    if len(words_of(text)) == 0:
-        return []
     row = []
-    for place, part in enumerate(text.split(";")):
-        move = read_move(part, CELLS_READ)
+    for place, part in enumerate(parts_of(text)):
+        move = read_move(part, MOST_CELLS)
         if move is None:
             raise NoText(place)
         row.append(move)
     return row
+
+
+def parts_of(text):
+    # Blanks alone, or no signs, are no part at all, and not one part that writes nothing.
+    return [] if len(words_of(text)) == 0 else text.split(";")
 
 
 def words_of(part):

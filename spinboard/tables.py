@@ -25,9 +25,13 @@ def commutes_with_all(mark, rows):
     return all([commute(mark, row) for row in rows])
 
 
-def reduced(rows, cells):
+def check_table(rows, cells):
     if not is_table(rows, cells):
         raise NoTable("this is no table of so many cells")
+
+
+def reduced(rows, cells):
+    check_table(rows, cells)
     done = []
     for row in rows:
         fresh = row

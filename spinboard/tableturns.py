@@ -12,9 +12,13 @@ HALF = (1, 0, 2)
 
 def borne(row):
     for place, move in enumerate(row):
-        if move[0] == "cross" or is_odd_turn(move):
+        if not is_borne(move):
             return place
     return None
+
+
+def is_borne(move):
+    return move[0] != "cross" and not is_odd_turn(move)
 
 
 def is_odd_turn(move):

@@ -3,11 +3,12 @@
 import copy
 import itertools
 import random
+import re
 import unittest
 from fractions import Fraction
 
 from spinboard.amounts import amount
-from spinboard.marks import commute, is_even, is_mark, product
+from spinboard.marks import commute, is_even, is_mark, product, read_mark
 
 
 class Odd:
@@ -44,6 +45,22 @@ ANYTHING = OTHER_KINDS + [
     (None, None), ("flip",), ([], []), ({}, 0), bytearray(2), iter([]), object(), ValueError("flip"), "flip", Ellipsis,
 ]
 
+NO_MOVES = ANYTHING + [
+    (0, 0, 1), ["flip", 0], ["turn", 0, 1], ["if", 0, 1], ["cross", 0, 1, 2], "flip 0", b"flip", ("flip 0",),
+    ("Flip", 0), ("FLIP", 0), ("flip ", 0), ("", 0), ("", 0, 1), ("not", 0), ("look", 0), ("turns", 0, 1), ("i", 0, 1),
+    (b"flip", 0), (None, 0), (0, "flip"), (0, 0), (["flip"], 0), ({"flip": 1}, 0), (Odd(), 0), (("flip", 0),),
+    (("flip",), 0), {"flip": 0}, [("flip", 0)], ("flip", (0,)), ("if", (0, 1)), ("flip", 0, None), iter(("flip", 0)),
+    ("turn", 0, 0), ("turn", 0, 8), ("turn", 0, -1), ("turn", 0, 9), ("turn", 0, GREAT), ("turn", 0, -GREAT),
+    ("turn", 0, True), ("turn", 0, None), ("turn", 0, "1"), ("turn", 0, 1.0), ("flip", 0, 1), ("mix", 0, 1),
+]
+
+NO_MARKS = [
+    [0, 0, 1], [0, 1, 0], (0, 1), (0, 0, 1, 0), (4, 0, 1), (-1, 0, 1), (-2, 0, 1), (0, -1, 0), (0, 0, -1), (6, 1, 0),
+    (0, GREAT, 0), (0, 0, GREAT), (GREAT, 0, 1), "+f", ("+f", 1), ((0, 1, 0),), [(0, 1, 0)], (0, 1.0, 0), (0.0, 0, 1),
+    (True, 1, 1), (False, 0, 1), (0, True, 0), (0, 0, True), (0, False, 1), (2, 0, False), ("0", 0, 1), (0, None, 1),
+    {0: 0, 1: 0, 2: 1}, (0, 0, Odd()), (Odd(), 0, 1), (0, [], 0), ([0], 1, 0), (0, (1,), 0),
+]
+
 
 # Each of these would be a table of three cells, were it not for one thing.
 NO_TABLES = [
@@ -68,6 +85,79 @@ NO_TABLES = [
     ((0, 0, 1), (0, 0, 2)), ((0, 0, 1),), (0, 0, 1), {(0, 0, 1): True}, {(0, 0, 1)}, frozenset([(0, 0, 1)]),
     iter([(0, 0, 1)]), "+s..", range(0),
 ]
+
+
+# The document's words for a part that writes a move, but that its cells are unlike ones.
+WRITTEN = re.compile(
+    " *(?:(flip|mix) +([0-5])|(turn) +([0-5]) +([1-7])|(if|pair|swap) +([0-5]) +([0-5])"
+    "|(cross) +([0-5]) +([0-5]) +([0-5])) *"
+)
+
+# None of these parts of a text writes a move; nor does one of them write a look of six cells.
+UNKNOWN_WORDS = [
+    "turns 0 1", "flop 0", "Flip 0", "FLIP 0", "look 0", "look +f", "f 0", "0", "5 5", "flip0flip 0", "flip, 0",
+    "flip flip 0", "flip flip", "0 flip", "0 flip 0", "(flip 0)", "('flip', 0)", "'flip' 0", "flip: 0", "-", "~",
+    "fl ip 0", "mi x 0", "pai r 0 1", "i f 0 1", "None", "turn\" 0 1", "crosses 0 1 2", "flips 0", "ifs 0 1", "xflip 0",
+]
+TOO_FEW = [
+    "flip", "mix", "turn", "if", "pair", "swap", "cross", "turn 0", "if 1", "pair 2", "swap 3", "cross 0", "cross 0 1",
+]
+TOO_MANY = [
+    "flip 0 1", "mix 0 1", "turn 0 1 2", "if 0 1 2", "pair 0 1 2", "swap 0 1 2", "cross 0 1 2 3", "flip 0 0",
+    "flip 0 flip", "flip 0 flip 1", "mix 0 .", "if 0 1 ,", "flip 0 ~",
+]
+MORE_FIGURES = [
+    "flip 00", "flip 01", "mix 10", "mix 12", "turn 0 01", "turn 0 07", "turn 00 1", "turn 0 11", "if 0 01", "if 00 1",
+    "pair 1 02", "swap 05 1", "cross 0 1 02", "cross 00 1 2", "flip 0000000", "mix 55", "flip " + "0" * 3000 + "1",
+]
+NO_FIGURES = [
+    "flip -0", "flip +1", "flip -1", "flip a", "flip 0.", "flip 1.0", "flip .5", "mix 1e0", "turn 0 -1", "turn 0 k",
+    "if a b", "swap 0,1", "swap 0, 1", "pair 0 x", "cross 0 1 c", "flip 0x1", "flip 1_", "flip _", "flip /", "flip :",
+    "flip (0)", "flip '0'", "flip True", "flip None", "flip ~", "flip !", "turn 0 '", "mix @",
+]
+CELLS_BEYOND = [
+    "flip 6", "flip 7", "flip 8", "flip 9", "mix 6", "mix 9", "turn 6 1", "turn 9 7", "if 6 0", "if 0 6", "pair 0 7",
+    "pair 7 0", "swap 8 1", "swap 1 8", "cross 6 0 1", "cross 0 6 1", "cross 0 1 6", "cross 0 1 9",
+]
+CELLS_TWICE = [
+    "if 0 0", "if 5 5", "pair 1 1", "swap 2 2", "cross 0 0 1", "cross 0 1 0", "cross 1 0 0", "cross 3 3 3",
+    "cross 5 4 5",
+]
+WRONG_K = ["turn 0 0", "turn 0 8", "turn 0 9", "turn 5 0", "turn 5 8", "turn 5 9", "turn 3 0"]
+NO_BLANK = [
+    "flip0", "mix1", "turn0 1", "turn0", "turn 01", "turn01", "if0 1", "if01", "if 01", "pair0 1", "pair 12", "swap1 2",
+    "swap 12", "cross0 1 2", "cross 012", "cross 01 2", "cross 0 12", "cross012",
+]
+OTHER_SIGNS = [
+    "flip\t0", "flip\n0", "flip 0\n", "\nflip 0", "\tflip 0", "flip 0\t", "flip\u00a00", "flip\r0", "flip 0\r\n",
+    "flip \u0661", "flip \u00b2", "flip \uff11", "flip 0\x00", "\x0bflip 0", "flip 0\x0c", "flip\u20030",
+    "\ufeffflip 0", "\u00a0", "\t", "\n", "\ud800", "flip \ud800",
+]
+WRONG_PARTS = (
+    UNKNOWN_WORDS + TOO_FEW + TOO_MANY + MORE_FIGURES + NO_FIGURES + CELLS_BEYOND + CELLS_TWICE + WRONG_K + NO_BLANK
+    + OTHER_SIGNS
+)
+
+
+def move_by_words(part, cells):
+    """The move of so many cells that the part of a text writes, or None."""
+    found = WRITTEN.fullmatch(part)
+    if found is None:
+        return None
+    told = [group for group in found.groups() if group is not None]
+    move = (told[0], *[int(figure) for figure in told[1:]])
+    named = move[1:2] if move[0] == "turn" else move[1:]
+    return move if len(set(named)) == len(named) and max(named) < cells else None
+
+
+def table_of(text):
+    return [read_mark(part)[0] for part in text.split()]
+
+
+FIVE = table_of("+fssf. +.fssf +f.fss +sf.fs")
+FOUR = table_of("+ffff +ssss")
+SIX = table_of("+fssf.. +.fssf. +f.fss. +sf.fs. +.....s")
+SIX_TIED = table_of("+ffff.. +ssss.. +....ff +....ss")
 
 
 def numbers(seed, most=40):
@@ -189,12 +279,31 @@ def some_marks(cells, many, seed):
     return [(source.randrange(4), source.randrange(2 ** cells), source.randrange(2 ** cells)) for _ in range(many)]
 
 
+def no_marks_of(cells):
+    """Things of every kind that are no even mark of so many cells."""
+    yield from NO_MARKS
+    yield from ANYTHING
+    yield from [(0, 2 ** cells, 0), (0, 0, 2 ** cells), (1, 2 ** cells, 2 ** cells), (0, 2 ** cells + 1, 0), (2, 0, 64)]
+    yield from [(1, 0, 0), (3, 0, 0), (1, 1, 0), (3, 1, 0), (1, 0, 1), (3, 0, 1), (0, 1, 1), (2, 1, 1)]
+    for place, thing in itertools.product(range(3), NOT_WHOLE):
+        yield tuple(thing if place == other else 1 for other in range(3))
+
+
 def even_marks(cells):
     return [mark for mark in all_marks(cells) if is_even(mark)]
 
 
 def some_even_marks(cells, many, seed):
     return [mark for mark in some_marks(cells, 8 * many, seed) if is_even(mark)][:many]
+
+
+def with_looks(row, cells, looks, seed):
+    """The parts of a play: the row with so many looks at any places among its moves."""
+    source = random.Random(f"{cells} {looks} {seed}")
+    parts = list(row)
+    for mark in some_even_marks(cells, looks, seed):
+        parts.insert(source.randrange(len(parts) + 1), ("look", mark))
+    return parts
 
 
 def products_of(rows):

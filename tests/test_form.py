@@ -164,6 +164,30 @@ class Form(unittest.TestCase):
             if isinstance(node.func, ast.Attribute):
                 self.assertIn(node.func.attr, METHODS | own, where)
 
+    def test_methods_and_values_of_objects_have_names_of_their_own(self):
+        methods = {part.name for _, node in self.nodes(ast.ClassDef) for part in node.body if hasattr(part, "name")}
+        stored = {node.attr for _, node in self.nodes(ast.Attribute) if isinstance(node.ctx, ast.Store)}
+        self.assertEqual(methods & stored, set())
+        for kind in (str, int, list, dict, set, bytes):
+            self.assertEqual((methods | stored) & set(dir(kind)) - DUNDERS, set())
+
+    def test_a_class_is_called_or_is_a_base_or_stands_by_its_like(self):
+        for path, tree in self.trees():
+            held = set()
+            for node in ast.walk(tree):
+                if isinstance(node, ast.Call):
+                    held |= {id(part) for part in ast.walk(node.func)}
+                    held |= {id(part) for part in node.args[1:] if getattr(node.func, "id", "") == "isinstance"}
+                elif isinstance(node, ast.ClassDef):
+                    held |= {id(part) for part in node.bases}
+                elif isinstance(node, ast.ExceptHandler):
+                    held |= {id(part) for part in ast.walk(node.type)}
+            named = {name.name for node in tree.body if isinstance(node, ast.ImportFrom) for name in node.names}
+            named |= {node.name for node in tree.body if isinstance(node, ast.ClassDef)}
+            for node in ast.walk(tree):
+                if isinstance(node, ast.Name) and node.id in named and node.id[0].isupper() and not node.id.isupper():
+                    self.assertIn(id(node), held, f"{path.name}:{node.lineno}")
+
     def test_walks_are_not_kept(self):
         for path, tree in self.trees():
             walked = {id(part) for node in ast.walk(tree) for part in walked_at(node)}

@@ -12,21 +12,11 @@ from spinboard.looks import looked
 from spinboard.marks import product, read_mark, turned_about
 from spinboard.rows import run
 from tests.helper import (
-    ANYTHING, NO_TABLES, NOT_WHOLE, OwnCase, all_marks, all_tables, is_empty_list, made_otherwise, products_of,
-    some_marks, some_table,
+    ANYTHING, FIVE, FOUR, NO_TABLES, NOT_WHOLE, SIX, SIX_TIED, OwnCase, all_marks, all_tables, is_empty_list,
+    made_otherwise, products_of, some_marks, some_table, table_of,
 )
 
 NO_WRONG = (0, 0, 0)
-
-
-def table_of(text):
-    return [read_mark(part)[0] for part in text.split()]
-
-
-FIVE = table_of("+fssf. +.fssf +f.fss +sf.fs")
-FOUR = table_of("+ffff +ssss")
-SIX = table_of("+fssf.. +.fssf. +f.fss. +sf.fs. +.....s")
-SIX_TIED = table_of("+ffff.. +ssss.. +....ff +....ss")
 
 
 def wrongs_by_words(cells, where):

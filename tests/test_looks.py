@@ -13,8 +13,8 @@ from spinboard.marks import commute, is_even, product, turned_about
 from spinboard.rows import run
 from spinboard.shares import share, share_over, share_plus, share_times, share_under
 from tests.helper import (
-    ANYTHING, GREAT, NOT_WHOLE, Odd, OwnCase, all_marks, cells_in, even_marks, great_board, laid_by_words,
-    made_otherwise, some_board, some_even_marks, some_row, some_table, told_by_cells, worth, worth_times,
+    OwnCase, all_marks, cells_in, even_marks, great_board, laid_by_words, made_otherwise, no_marks_of, some_board,
+    some_even_marks, some_row, some_table, told_by_cells, worth, worth_times,
 )
 
 NOUGHT = (0, 0, 0, 0, 0)
@@ -247,23 +247,6 @@ class Looked(LookCase):
             for mark in [(0, 0, 0), (0, 1, 0), (1, 1, 1)]:
                 self.assertEqual(looked(board, mark), looked(board, mark))
                 self.assertEqual(board, some_board(cells))
-
-
-NO_MARKS = [
-    [0, 0, 1], [0, 1, 0], (0, 1), (0, 0, 1, 0), (4, 0, 1), (-1, 0, 1), (-2, 0, 1), (0, -1, 0), (0, 0, -1), (6, 1, 0),
-    (0, GREAT, 0), (0, 0, GREAT), (GREAT, 0, 1), "+f", ("+f", 1), ((0, 1, 0),), [(0, 1, 0)], (0, 1.0, 0), (0.0, 0, 1),
-    (True, 1, 1), (False, 0, 1), (0, True, 0), (0, 0, True), (0, False, 1), (2, 0, False), ("0", 0, 1), (0, None, 1),
-    {0: 0, 1: 0, 2: 1}, (0, 0, Odd()), (Odd(), 0, 1), (0, [], 0), ([0], 1, 0), (0, (1,), 0),
-]
-
-
-def no_marks_of(cells):
-    yield from NO_MARKS
-    yield from ANYTHING
-    yield from [(0, 2 ** cells, 0), (0, 0, 2 ** cells), (1, 2 ** cells, 2 ** cells), (0, 2 ** cells + 1, 0), (2, 0, 64)]
-    yield from [(1, 0, 0), (3, 0, 0), (1, 1, 0), (3, 1, 0), (1, 0, 1), (3, 0, 1), (0, 1, 1), (2, 1, 1)]
-    for place, thing in itertools.product(range(3), NOT_WHOLE):
-        yield tuple(thing if place == other else 1 for other in range(3))
 
 
 class NoMarks(LookCase):

@@ -9,7 +9,7 @@ from spinboard.boards import board_of, start
 from spinboard.errors import NoCell, NoMove
 from spinboard.moves import back_move, check_move, turned
 from tests.helper import (
-    ANYTHING, GREAT, NOT_WHOLE, Odd, all_moves, great_board, some_board, told_by_cells, worth_spun, worth_times,
+    GREAT, NO_MOVES, NOT_WHOLE, all_moves, great_board, some_board, told_by_cells, worth_spun, worth_times,
 )
 
 NOUGHT = (0, 0, 0, 0, 0)
@@ -155,14 +155,6 @@ class Turned(unittest.TestCase):
 
 LENGTHS = {"flip": 1, "mix": 1, "turn": 2, "if": 2, "pair": 2, "swap": 2, "cross": 3}
 GOOD = [("flip", 0), ("mix", 1), ("turn", 0, 7), ("if", 0, 1), ("pair", 1, 0), ("swap", 0, 1), ("cross", 0, 1, 2)]
-NO_MOVES = ANYTHING + [
-    (0, 0, 1), ["flip", 0], ["turn", 0, 1], ["if", 0, 1], ["cross", 0, 1, 2], "flip 0", b"flip", ("flip 0",),
-    ("Flip", 0), ("FLIP", 0), ("flip ", 0), ("", 0), ("", 0, 1), ("not", 0), ("look", 0), ("turns", 0, 1), ("i", 0, 1),
-    (b"flip", 0), (None, 0), (0, "flip"), (0, 0), (["flip"], 0), ({"flip": 1}, 0), (Odd(), 0), (("flip", 0),),
-    (("flip",), 0), {"flip": 0}, [("flip", 0)], ("flip", (0,)), ("if", (0, 1)), ("flip", 0, None), iter(("flip", 0)),
-    ("turn", 0, 0), ("turn", 0, 8), ("turn", 0, -1), ("turn", 0, 9), ("turn", 0, GREAT), ("turn", 0, -GREAT),
-    ("turn", 0, True), ("turn", 0, None), ("turn", 0, "1"), ("turn", 0, 1.0), ("flip", 0, 1), ("mix", 0, 1),
-]
 
 
 class CheckMove(unittest.TestCase):
